@@ -244,7 +244,8 @@ func roomsOf(h quarrel.House) []int {
 	}
 }
 
-// P12.3, F3: Rooms compared with all lists of rooms; of seven and eight people only if they need at most five.
+// P12.3, F3: Rooms compared with all lists of rooms; of seven and eight people, where these lists are many, only
+// if no brawl has more than four of them.
 func TestRoomsByDefinition(t *testing.T) {
 	someHouses(func(h quarrel.House) {
 		rooms, e := quarrel.Rooms(h)
